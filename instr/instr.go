@@ -73,6 +73,18 @@ var fixed = [Ecall + 1]int{
 	Ecall: 0x73,
 }
 
+// names has what each instruction is called.
+var names = [Ecall + 1]string{
+	None: "",
+	Lui:  "lui", Auipc: "auipc",
+	Jal: "jal", Jalr: "jalr",
+	Beq: "beq", Bne: "bne", Blt: "blt", Bge: "bge", Bltu: "bltu", Bgeu: "bgeu",
+	Lw: "lw", Sw: "sw",
+	Addi: "addi", Slti: "slti", Xori: "xori", Ori: "ori", Andi: "andi",
+	Add: "add", Sub: "sub", Slt: "slt", Sltu: "sltu", Xor: "xor", Or: "or", And: "and",
+	Ecall: "ecall",
+}
+
 // Instr is an instruction, its registers and its number. What it does not have is 0.
 type Instr struct {
 	Op  int
@@ -115,9 +127,26 @@ func Encode(i Instr) int {
 	return w
 }
 
+// Named gives the instruction that is called so, None if there is none.
+func Named(s string) int {
+	for op := Lui; op <= Ecall; op++ {
+		if names[op] == s {
+			return op
+		}
+	}
+	return None
+}
+
 // IsBranch tells whether op is one of the six branches.
 func IsBranch(op int) bool {
 	return op >= Beq && op <= Bgeu
+}
+
+// Parts parts v for two instructions: its lowest 12 bits with a sign, low, and what lui or auipc has to add to them, high, in 20 bits.
+func Parts(v int) (int, int) {
+	low := signed(bits(v, 0, 12), 12)
+	high := bits(v-low, 12, 20)
+	return high, low
 }
 
 // fixedMask tells which bits are the fixed ones.

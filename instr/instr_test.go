@@ -251,3 +251,26 @@ func TestIsBranch(t *testing.T) {
 		}
 	}
 }
+
+func TestNamed(t *testing.T) {
+	words := []string{"lui", "auipc", "jal", "jalr", "beq", "bne", "blt", "bge", "bltu", "bgeu", "lw", "sw", "addi", "slti", "xori", "ori", "andi", "add", "sub", "slt", "sltu", "xor", "or", "and", "ecall"}
+	for i, s := range words {
+		if op := Named(s); op != i+Lui {
+			t.Errorf("Named(%q) = %d, want %d", s, op, i+Lui)
+		}
+	}
+	for _, s := range []string{"", "nop", "Lui", "lui ", "ad", "addd", "sltiu"} {
+		if op := Named(s); op != None {
+			t.Errorf("Named(%q) = %d, want none", s, op)
+		}
+	}
+}
+
+func TestParts(t *testing.T) {
+	for _, v := range []int{0, 1, 2047, 2048, 4095, 4096, 6143, 6144, -1, -2048, -2049, -4096, 1<<31 - 1, 1<<31 - 2048, 1<<31 - 2049, 1 << 31, 1<<32 - 1, 1<<32 - 2048, 1<<32 - 2049, -1 << 31, math.MaxInt, math.MinInt} {
+		high, low := Parts(v)
+		if low < -2048 || low > 2047 || high < 0 || high >= 1<<20 || uint32(high<<12+low) != uint32(v) {
+			t.Errorf("Parts(%d) = %d, %d", v, high, low)
+		}
+	}
+}

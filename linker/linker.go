@@ -4,6 +4,7 @@ package linker
 import (
 	"linker/api"
 	"linker/archive"
+	"linker/asm"
 	"linker/object"
 )
 
@@ -20,7 +21,7 @@ func Pack(ms []string) (string, api.Errno) { return archive.Pack(ms) }
 func Members(s string) ([]string, api.Errno) { return archive.Members(s) }
 
 // Assemble gives the bytes of a module's object (P7 to P9).
-func Assemble(text string) (string, api.Fault) { return "", api.Fault{} }
+func Assemble(text string) (string, api.Fault) { return asm.Assemble(text) }
 
 // Machine is an image that was loaded.
 type Machine struct{}

@@ -58,8 +58,8 @@ func wordsOf(o *api.Object, sect int) []int {
 	return nil
 }
 
-// lengthOf gives a section's length in bytes; of Undef it is 0, so that 0 is the one offset there.
-func lengthOf(o *api.Object, sect int) int {
+// Length gives a section's length in bytes; of Undef it is 0, so that 0 is the one offset there.
+func Length(o *api.Object, sect int) int {
 	if sect == api.Bss {
 		return 4 * o.Bss
 	}
