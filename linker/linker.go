@@ -5,6 +5,8 @@ import (
 	"linker/api"
 	"linker/archive"
 	"linker/asm"
+	"linker/image"
+	"linker/machine"
 	"linker/object"
 )
 
@@ -23,14 +25,24 @@ func Members(s string) ([]string, api.Errno) { return archive.Members(s) }
 // Assemble gives the bytes of a module's object (P7 to P9).
 func Assemble(text string) (string, api.Fault) { return asm.Assemble(text) }
 
-// Machine is an image that was loaded.
-type Machine struct{}
+// Machine is an image that was loaded. Runs only read it.
+type Machine struct {
+	image *image.Image
+}
 
 // Load loads an image (P10).
-func Load(s string) (*Machine, api.Errno) { return nil, api.OK }
+func Load(s string) (*Machine, api.Errno) {
+	loaded, e := image.Read(s)
+	if e != api.OK {
+		return nil, e
+	}
+	return &Machine{image: loaded}, api.OK
+}
 
 // Run runs it (P11).
-func (m *Machine) Run(in []int, fuel int) (api.Result, api.Errno) { return api.Result{}, api.OK }
+func (m *Machine) Run(in []int, fuel int) (api.Result, api.Errno) {
+	return machine.Run(m.image, in, fuel)
+}
 
 // Link gives the image of files (P12 to P15).
 func Link(files []string, b api.Bases) (string, api.Fault) { return "", api.Fault{} }

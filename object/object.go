@@ -77,25 +77,15 @@ func readObject(r *wire.Reader) *api.Object {
 	data := r.Number(2)
 	o := &api.Object{}
 	o.Bss = r.Number(2)
-	o.Align = readNumbers(r, 4, 1)
+	o.Align = r.Numbers(4, 1)
 	syms := r.Number(1)
 	rels := r.Number(1)
 	o.Syms = readSymbols(r, syms)
 	o.Rels = readRelocs(r, rels)
-	o.Text = readNumbers(r, text, 4)
-	o.Far = readNumbers(r, far, 4)
-	o.Data = readNumbers(r, data, 4)
+	o.Text = r.Numbers(text, 4)
+	o.Far = r.Numbers(far, 4)
+	o.Data = r.Numbers(data, 4)
 	return o
-}
-
-// readNumbers gives count numbers, fewer if the bytes end: no more is built than the bytes hold.
-func readNumbers(r *wire.Reader, count int, size int) []int {
-	var list []int
-	for i := 0; i < count && !r.Short(); i++ {
-		n := r.Number(size)
-		list = append(list, n)
-	}
-	return list
 }
 
 func readSymbols(r *wire.Reader, count int) []api.Symbol {

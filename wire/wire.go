@@ -61,6 +61,16 @@ func (r *Reader) Number(size int) int {
 	return n
 }
 
+// Numbers gives count numbers of size bytes each, fewer if the bytes end: no more is built than the bytes hold.
+func (r *Reader) Numbers(count int, size int) []int {
+	var list []int
+	for i := 0; i < count && !r.short; i++ {
+		n := r.Number(size)
+		list = append(list, n)
+	}
+	return list
+}
+
 // Short tells whether bytes were asked for that were not there.
 func (r *Reader) Short() bool {
 	return r.short

@@ -1,6 +1,9 @@
 package wire
 
-import "testing"
+import (
+	"slices"
+	"testing"
+)
 
 func TestWriterLaysLowestByteFirst(t *testing.T) {
 	w := Writer{}
@@ -52,5 +55,22 @@ func TestReaderThatIsShort(t *testing.T) {
 	r := NewReader("ab")
 	if got := r.Number(4); got != 0 || !r.Short() {
 		t.Errorf("Number = %d, Short %v", got, r.Short())
+	}
+}
+
+func TestNumbersInARow(t *testing.T) {
+	for _, c := range []struct {
+		count, size int
+		want        []int
+		short       bool
+	}{
+		{0, 2, nil, false}, {-1, 2, nil, false}, {1, 2, []int{0x0201}, false}, {2, 2, []int{0x0201, 0x0403}, false},
+		{5, 1, []int{1, 2, 3, 4, 5}, false}, {1, 4, []int{0x04030201}, false}, {3, 2, []int{0x0201, 0x0403, 0}, true}, {1 << 62, 4, []int{0x04030201, 0}, true},
+	} {
+		r := NewReader("\x01\x02\x03\x04\x05")
+		got := r.Numbers(c.count, c.size)
+		if !slices.Equal(got, c.want) || r.Short() != c.short {
+			t.Errorf("Numbers(%d, %d) = %v, Short %v, want %v, %v", c.count, c.size, got, r.Short(), c.want, c.short)
+		}
 	}
 }
