@@ -9,22 +9,23 @@ type region struct {
 }
 
 func valid(m *Image) bool {
-	if !isBase(m.Bases.Text) || !isBase(m.Bases.Far) || !isBase(m.Bases.Data) {
+	if !IsBase(m.Bases.Text) || !IsBase(m.Bases.Far) || !IsBase(m.Bases.Data) {
 		return false
 	}
-	if !regionsFit(m) {
+	if !m.Fits() {
 		return false
 	}
 	_, starts := m.Code(m.Start)
 	return starts
 }
 
-func isBase(address int) bool {
+// IsBase tells whether a region may begin at an address.
+func IsBase(address int) bool {
 	return address >= api.Low && address < api.High && address%16 == 0
 }
 
-// regionsFit tells whether each region ends within the room for addresses and none meets another.
-func regionsFit(m *Image) bool {
+// Fits tells whether each region ends within the room for addresses and none meets another.
+func (m *Image) Fits() bool {
 	text := regionOf(m.Bases.Text, len(m.Text))
 	far := regionOf(m.Bases.Far, len(m.Far))
 	data := regionOf(m.Bases.Data, len(m.Data)+m.Noughts)

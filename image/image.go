@@ -19,6 +19,24 @@ type Image struct {
 	Noughts int
 }
 
+// Write gives an image's bytes.
+func Write(m *Image) string {
+	w := wire.Writer{}
+	w.Text(mark)
+	w.Number(m.Start, 4)
+	w.Number(m.Bases.Text, 4)
+	w.Number(m.Bases.Far, 4)
+	w.Number(m.Bases.Data, 4)
+	w.Number(len(m.Text), 2)
+	w.Number(len(m.Far), 2)
+	w.Number(len(m.Data), 2)
+	w.Number(m.Noughts, 2)
+	w.Numbers(m.Text, 4)
+	w.Numbers(m.Far, 4)
+	w.Numbers(m.Data, 4)
+	return w.Bytes()
+}
+
 // Read gives the image that bytes are.
 func Read(s string) (*Image, api.Errno) {
 	r := wire.NewReader(s)

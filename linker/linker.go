@@ -6,6 +6,7 @@ import (
 	"linker/archive"
 	"linker/asm"
 	"linker/image"
+	"linker/link"
 	"linker/machine"
 	"linker/object"
 )
@@ -45,4 +46,4 @@ func (m *Machine) Run(in []int, fuel int) (api.Result, api.Errno) {
 }
 
 // Link gives the image of files (P12 to P15).
-func Link(files []string, b api.Bases) (string, api.Fault) { return "", api.Fault{} }
+func Link(files []string, b api.Bases) (string, api.Fault) { return link.Link(files, b) }

@@ -45,8 +45,8 @@ func allWords(list []int) bool {
 	return true
 }
 
-// wordsOf gives the words of a section, none if it is not one that has words.
-func wordsOf(o *api.Object, sect int) []int {
+// Words gives the words of a section, none if it is not one that has words.
+func Words(o *api.Object, sect int) []int {
 	switch sect {
 	case api.Text:
 		return o.Text
@@ -63,5 +63,5 @@ func Length(o *api.Object, sect int) int {
 	if sect == api.Bss {
 		return 4 * o.Bss
 	}
-	return 4 * len(wordsOf(o, sect))
+	return 4 * len(Words(o, sect))
 }

@@ -20,7 +20,7 @@ func Write(o *api.Object) (string, api.Errno) {
 	w.Number(len(o.Far), 2)
 	w.Number(len(o.Data), 2)
 	w.Number(o.Bss, 2)
-	writeNumbers(&w, o.Align, 1)
+	w.Numbers(o.Align, 1)
 	w.Number(len(o.Syms), 1)
 	w.Number(len(o.Rels), 1)
 	for _, sym := range o.Syms {
@@ -29,16 +29,10 @@ func Write(o *api.Object) (string, api.Errno) {
 	for _, rel := range o.Rels {
 		writeReloc(&w, rel)
 	}
-	writeNumbers(&w, o.Text, 4)
-	writeNumbers(&w, o.Far, 4)
-	writeNumbers(&w, o.Data, 4)
+	w.Numbers(o.Text, 4)
+	w.Numbers(o.Far, 4)
+	w.Numbers(o.Data, 4)
 	return w.Bytes(), api.OK
-}
-
-func writeNumbers(w *wire.Writer, list []int, size int) {
-	for _, n := range list {
-		w.Number(n, size)
-	}
 }
 
 func writeSymbol(w *wire.Writer, sym api.Symbol) {

@@ -22,10 +22,10 @@ func validReloc(o *api.Object, rel api.Reloc) bool {
 	if !validKind(rel) || !validAddend(rel) || !validSym(o, rel) {
 		return false
 	}
-	if rel.Kind == api.RelAlign && borderOf(o, rel.Sect) < rel.Addend+4 {
+	if rel.Kind == api.RelAlign && Border(o, rel.Sect) < rel.Addend+4 {
 		return false
 	}
-	return wordsGo(rel.Kind, aboutWords(o, rel)) && !symbolWithin(o, rel)
+	return wordsGo(rel.Kind, About(o, rel)) && !symbolWithin(o, rel)
 }
 
 func validKind(rel api.Reloc) bool {
@@ -55,8 +55,8 @@ func validSym(o *api.Object, rel api.Reloc) bool {
 	return rel.Sym >= 0 && rel.Sym < len(o.Syms)
 }
 
-// borderOf gives the number of bytes of which a section begins at a multiple.
-func borderOf(o *api.Object, sect int) int {
+// Border gives the number of bytes of which a section begins at a multiple.
+func Border(o *api.Object, sect int) int {
 	if sect < api.Text || sect > len(o.Align) {
 		return 0
 	}
@@ -64,8 +64,8 @@ func borderOf(o *api.Object, sect int) int {
 	return 1 << uint(border)
 }
 
-// span tells how many words a relocation is about.
-func span(rel api.Reloc) int {
+// Span tells how many words a relocation is about.
+func Span(rel api.Reloc) int {
 	switch rel.Kind {
 	case api.RelCall, api.RelAddr:
 		return 2
@@ -75,10 +75,10 @@ func span(rel api.Reloc) int {
 	return 1
 }
 
-// aboutWords gives the words that rel is about, none unless all of them lie in its section. The offset is held against the length ahead of any sum: one that is very great would overflow there.
-func aboutWords(o *api.Object, rel api.Reloc) []int {
-	list := wordsOf(o, rel.Sect)
-	count := span(rel)
+// About gives the words that rel is about, none unless all of them lie in its section. The offset is held against the length ahead of any sum: one that is very great would overflow there.
+func About(o *api.Object, rel api.Reloc) []int {
+	list := Words(o, rel.Sect)
+	count := Span(rel)
 	if count < 1 || rel.Off < 0 || rel.Off%4 != 0 {
 		return nil
 	}
@@ -132,7 +132,7 @@ func allNops(list []int) bool {
 
 // symbolWithin tells whether a symbol stands between the words of rel, where a link could part or leave out what the symbol stands at.
 func symbolWithin(o *api.Object, rel api.Reloc) bool {
-	end := rel.Off + 4*span(rel)
+	end := rel.Off + 4*Span(rel)
 	for _, sym := range o.Syms {
 		if sym.Sect == rel.Sect && sym.Off > rel.Off && sym.Off < end {
 			return true
@@ -146,5 +146,5 @@ func follows(ahead api.Reloc, rel api.Reloc) bool {
 	if rel.Sect != ahead.Sect {
 		return rel.Sect > ahead.Sect
 	}
-	return rel.Off >= ahead.Off+4*span(ahead)
+	return rel.Off >= ahead.Off+4*Span(ahead)
 }

@@ -21,6 +21,13 @@ func (w *Writer) Number(n int, size int) {
 	}
 }
 
+// Numbers lays the numbers of a list, in size bytes each.
+func (w *Writer) Numbers(list []int, size int) {
+	for _, n := range list {
+		w.Number(n, size)
+	}
+}
+
 // Bytes gives all that was laid.
 func (w *Writer) Bytes() string {
 	return string(w.bytes)

@@ -21,6 +21,17 @@ func TestWriterLaysLowestByteFirst(t *testing.T) {
 	}
 }
 
+func TestWriterLaysLists(t *testing.T) {
+	w := Writer{}
+	w.Numbers(nil, 4)
+	w.Numbers([]int{1, 0x203}, 2)
+	w.Numbers([]int{0xfedcba98}, 4)
+	want := "\x01\x00\x03\x02\x98\xba\xdc\xfe"
+	if got := w.Bytes(); got != want {
+		t.Errorf("Bytes = %x, want %x", got, want)
+	}
+}
+
 func TestReaderGivesWhatWasLaid(t *testing.T) {
 	r := NewReader("LK\x34\x12\x07\x98\xba\xdc\xfe")
 	if got := r.Text(0); got != "" || r.Short() {
